@@ -1,0 +1,1 @@
+"""Halves, singles, doubles: each result rounded once. The calls are in roundedonce.floats."""

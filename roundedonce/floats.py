@@ -1,0 +1,109 @@
+"""The calls: one and two. Each answers -1 alone where it is refused, else 0, bits and flags."""
+
+from roundedonce.arithmetic import add, div, mul, scale, sqrt, sub
+from roundedonce.choosing import greatest, in_range, least
+from roundedonce.formats import HALF, LOUD, SMALL, WIDTHS
+from roundedonce.formats import no_number, quiet_bit, taken_in
+from roundedonce.parting import exponent_of, grid_reduce, grid_round, part_of
+from roundedonce.rounding import BY_ZERO, CAME_SMALL, INVALID
+
+SQRT = 0
+ROUND = 1
+EXPONENT = 2
+PART = 3
+
+ADD = 0
+SUB = 1
+MUL = 2
+DIV = 3
+LEAST = 4
+GREATEST = 5
+RANGE = 7
+
+# By op: the greatest imm it takes.
+ONE_IMMS = (0, 255, 0, 15, 255)
+TWO_IMMS = (0, 0, 0, 0, 0, 0, 0, 15)
+
+
+def one(f, op, how, imm, a):
+    if is_refused(f, op, how, imm, ONE_IMMS) or is_too_wide(f, a):
+        return [-1]
+    operand = taken_in(f, how, a)
+    found = no_number_answer(f, [operand])
+    if found is None:
+        found = with_small(one_number(f, op, how, imm, operand), [operand])
+    return [0, found[0], found[1]]
+
+
+def two(f, op, how, imm, a, b):
+    if is_refused(f, op, how, imm, TWO_IMMS) or is_too_wide(f, a) or is_too_wide(f, b):
+        return [-1]
+    if op == RANGE and f == HALF:
+        return [-1]
+    first = taken_in(f, how, a)
+    second = taken_in(f, how, b)
+    found = chosen_answer(f, op, imm, first, second)
+    if found is None:
+        found = no_number_answer(f, [first, second])
+    if found is None:
+        found = with_small(two_numbers(f, op, how, first, second), [first, second])
+    return [0, found[0], found[1]]
+
+
+def is_refused(f, op, how, imm, greatest_imms):
+    return f >= len(WIDTHS) or how > 15 or op >= len(greatest_imms) or imm > greatest_imms[op]
+
+
+def is_too_wide(f, bits):
+    return bits >> WIDTHS[f] != 0
+
+
+def one_number(f, op, how, imm, a):
+    if op == SQRT:
+        return sqrt(f, how, a)
+    if op == ROUND:
+        return grid_round(f, how, imm, a)
+    if op == EXPONENT:
+        return exponent_of(f, how, a)
+    if op == PART:
+        return part_of(f, how, imm, a)
+    return grid_reduce(f, how, imm, a)
+
+
+def two_numbers(f, op, how, a, b):
+    if op == ADD:
+        return add(f, how, a, b)
+    if op == SUB:
+        return sub(f, how, a, b)
+    if op == MUL:
+        return mul(f, how, a, b)
+    if op == DIV:
+        return div(f, how, a, b)
+    return scale(f, how, a, b)
+
+
+def chosen_answer(f, op, imm, a, b):
+    """The answer of the ops with their own words about no numbers; None of the others."""
+    if op == LEAST:
+        return least(a, b)
+    if op == GREATEST:
+        return greatest(a, b)
+    if op == RANGE:
+        return in_range(f, imm, a, b)
+    return None
+
+
+def no_number_answer(f, operands):
+    """The first no number made quiet, and its flags; None if there is none."""
+    flags = INVALID if any([operand.kind == LOUD for operand in operands]) else 0
+    for operand in operands:
+        if no_number(operand):
+            return (operand.bits | quiet_bit(f), flags)
+    return None
+
+
+def with_small(found, operands):
+    """The answer, told too that a small one came in, unless invalid or divided by zero stand alone."""
+    if found[1] & (INVALID | BY_ZERO) == 0 and any([operand.kind == SMALL for operand in operands]):
+        return (found[0], found[1] | CAME_SMALL)
+    return found

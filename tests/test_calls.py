@@ -1,0 +1,65 @@
+"""The form of an answer, and that a call leaves nothing behind."""
+
+import contextlib
+import io
+import unittest
+
+import roundedonce.floats
+from model import FORMATS, ONE_OPS, TWO_OPS, edges
+from roundedonce.floats import one, two
+
+
+def calls():
+    found = []
+    for f in FORMATS:
+        values = edges(f)[::5]
+        for how in (0, 1, 14):
+            found += [(one, (f, op, how, 0, a)) for op in ONE_OPS.values() for a in values]
+            found += [(two, (f, op, how, 0, a, b)) for op in TWO_OPS.values() for a in values for b in values]
+    found += [(one, (3, 0, 0, 0, 0)), (two, (0, 7, 0, 0, 0, 0))]
+    return found
+
+
+class Calls(unittest.TestCase):
+    def test_answers_are_lists_of_whole_numbers(self):
+        for call, handed in calls():
+            found = call(*handed)
+            self.assertIs(type(found), list)
+            self.assertEqual({type(x) for x in found}, {int})
+            self.assertIn((len(found), found[0]), [(1, -1), (3, 0)])
+            if found[0] == 0:
+                self.assertLess(found[2], 64)
+
+    def test_each_call_is_as_if_for_the_first_time(self):
+        listed = calls()
+        first = [call(*handed) for call, handed in listed]
+        kept = [list(found) for found in first]
+        for found in first:
+            found.append(7)
+        again = [call(*handed) for call, handed in reversed(listed)]
+        self.assertEqual(again[::-1], kept)
+
+    def test_nothing_is_printed(self):
+        out, err = io.StringIO(), io.StringIO()
+        with contextlib.redirect_stdout(out), contextlib.redirect_stderr(err):
+            for call, handed in calls():
+                call(*handed)
+        self.assertEqual((out.getvalue(), err.getvalue()), ("", ""))
+
+    def test_arguments_by_name(self):
+        self.assertEqual(one(f=1, op=0, how=0, imm=0, a=0x40800000), [0, 0x40000000, 0])
+        self.assertEqual(two(f=1, op=1, how=0, imm=0, a=0x40800000, b=0x40000000), [0, 0x40000000, 0])
+
+    def test_names_of_the_module(self):
+        self.assertIs(roundedonce.floats.one, one)
+        self.assertIs(roundedonce.floats.two, two)
+
+    def test_flags_that_stand_alone(self):
+        for call, handed in calls():
+            found = call(*handed)
+            if found[0] == 0 and found[2] & 5:
+                self.assertIn(found[2], (1, 4), (call, handed))
+
+
+if __name__ == "__main__":
+    unittest.main()

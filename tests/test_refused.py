@@ -1,0 +1,109 @@
+"""Wrong inputs, each refused with -1 alone, and their right neighbours, which are not."""
+
+import unittest
+
+from model import FORMATS, ONE_OPS, TWO_OPS, WIDTH
+from roundedonce.floats import one, two
+
+GREATEST_32 = 4294967295
+GREATEST_64 = 18446744073709551615
+ONE_IMMS = {"sqrt": 0, "round": 255, "exponent": 0, "part": 15, "reduce": 255}
+TWO_IMMS = {"add": 0, "sub": 0, "mul": 0, "div": 0, "least": 0, "greatest": 0, "scale": 0, "range": 15}
+
+
+class Refused(unittest.TestCase):
+    def refused(self, call, *handed):
+        self.assertEqual(call(*handed), [-1], (call, handed))
+
+    def taken(self, call, *handed):
+        found = call(*handed)
+        self.assertEqual((len(found), found[0]), (3, 0), (call, handed))
+
+    def formats_of(self, name):
+        return [f for f in FORMATS if name != "range" or f != 0]
+
+    def test_f_above_two(self):
+        for f in (3, 4, 16, GREATEST_32):
+            for op in ONE_OPS.values():
+                self.refused(one, f, op, 0, 0, 0)
+            for op in TWO_OPS.values():
+                self.refused(two, f, op, 0, 0, 0, 0)
+
+    def test_op_that_is_not(self):
+        for f in FORMATS:
+            for op in (5, 6, 7, 8, GREATEST_32):
+                self.refused(one, f, op, 0, 0, 0)
+            for op in (8, 9, 16, GREATEST_32):
+                self.refused(two, f, op, 0, 0, 0, 0)
+
+    def test_how_above_fifteen(self):
+        for f in FORMATS:
+            for how in (16, 17, 32, GREATEST_32):
+                for op in ONE_OPS.values():
+                    self.refused(one, f, op, how, 0, 0)
+                for op in TWO_OPS.values():
+                    self.refused(two, f, op, how, 0, 0, 0)
+
+    def test_every_how_up_to_fifteen(self):
+        for how in range(16):
+            for name, op in ONE_OPS.items():
+                for f in self.formats_of(name):
+                    self.taken(one, f, op, how, 0, 0)
+            for name, op in TWO_OPS.items():
+                for f in self.formats_of(name):
+                    self.taken(two, f, op, how, 0, 0, 0)
+
+    def test_imm_above_what_is_told(self):
+        for name, op in ONE_OPS.items():
+            top = ONE_IMMS[name]
+            for f in FORMATS:
+                self.taken(one, f, op, 0, top, 0)
+                for imm in (top + 1, top + 16, 256, GREATEST_32):
+                    self.refused(one, f, op, 0, imm, 0)
+        for name, op in TWO_OPS.items():
+            top = TWO_IMMS[name]
+            for f in self.formats_of(name):
+                self.taken(two, f, op, 0, top, 0, 0)
+                for imm in (top + 1, top + 16, 256, GREATEST_32):
+                    self.refused(two, f, op, 0, imm, 0, 0)
+
+    def test_range_of_half(self):
+        for imm in range(16):
+            for how in range(16):
+                self.refused(two, 0, TWO_OPS["range"], how, imm, 0x3C00, 0x4000)
+
+    def test_bits_above_the_formats(self):
+        for f in FORMATS:
+            wide = [bits for bits in (1 << WIDTH[f], (1 << WIDTH[f]) + 0x3C00, GREATEST_64)
+                    if bits >> WIDTH[f] and bits <= GREATEST_64]
+            for op in ONE_OPS.values():
+                self.taken(one, f, op, 0, 0, (1 << WIDTH[f]) - 1)
+                for bits in wide:
+                    self.refused(one, f, op, 0, 0, bits)
+            for name, op in TWO_OPS.items():
+                for bits in wide:
+                    self.refused(two, f, op, 0, 0, bits, 0)
+                    self.refused(two, f, op, 0, 0, 0, bits)
+                    self.refused(two, f, op, 0, 0, bits, bits)
+                if f in self.formats_of(name):
+                    self.taken(two, f, op, 0, 0, (1 << WIDTH[f]) - 1, (1 << WIDTH[f]) - 1)
+
+    def test_double_takes_all_bits(self):
+        for op in ONE_OPS.values():
+            self.taken(one, 2, op, 15, 0, GREATEST_64)
+        for op in TWO_OPS.values():
+            self.taken(two, 2, op, 15, 0, GREATEST_64, GREATEST_64)
+
+    def test_a_wrong_input_beside_no_numbers(self):
+        # What is refused is refused ahead of all else.
+        self.refused(two, 1, TWO_OPS["add"], 0, 0, 0x7F800001, 1 << 32)
+        self.refused(two, 1, TWO_OPS["least"], 0, 1, 0x7F800001, 0)
+        self.refused(one, 1, ONE_OPS["sqrt"], 0, 1, 0x7F800001)
+
+    def test_all_at_their_greatest(self):
+        self.refused(one, GREATEST_32, GREATEST_32, GREATEST_32, GREATEST_32, GREATEST_64)
+        self.refused(two, GREATEST_32, GREATEST_32, GREATEST_32, GREATEST_32, GREATEST_64, GREATEST_64)
+
+
+if __name__ == "__main__":
+    unittest.main()
