@@ -2,9 +2,9 @@
 
 from roundedonce.formats import DIGITS, INFINITE, ZERO
 from roundedonce.formats import below_zero, infinite_bits, signed_whole, turned
-from roundedonce.rounding import BY_ZERO, DOWN
-from roundedonce.rounding import infinite_result, invalid_result, result, result_with_rest, rounding_of
-from roundedonce.rounding import signed_result, zero_result
+from roundedonce.rounding import BY_ZERO
+from roundedonce.rounding import infinite_result, invalid_result, result, result_with_rest
+from roundedonce.rounding import signed_result, unlike_zero_sign, zero_result
 
 # Beyond this every format has overflowed, or has nothing left but what's lost.
 FARTHEST_SCALE = 10000
@@ -28,7 +28,7 @@ def zero_sum_sign(how, a, b):
     # Of one sign only two zeros add up to 0.
     if a.sign == b.sign:
         return a.sign
-    return 1 if rounding_of(how) == DOWN else 0
+    return unlike_zero_sign(how)
 
 
 def sub(f, how, a, b):

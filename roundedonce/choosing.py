@@ -3,18 +3,10 @@
 Each has its own words about no numbers, so each tells its flags whole.
 """
 
-from roundedonce.formats import LOUD, SMALL
+from roundedonce.comparing import small_flags, value_place
+from roundedonce.formats import LOUD
 from roundedonce.formats import no_number, quiet_bit, zero_bits
-from roundedonce.rounding import CAME_SMALL, INVALID
-
-
-def small_flags(a, b):
-    return CAME_SMALL if a.kind == SMALL or b.kind == SMALL else 0
-
-
-def value_place(operand):
-    """A whole number that stands to those of other numbers as the values stand to one another."""
-    return -operand.rank if operand.sign == 1 else operand.rank
+from roundedonce.rounding import INVALID
 
 
 def least(a, b):

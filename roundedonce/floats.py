@@ -1,9 +1,11 @@
-"""The calls: one and two. Each answers -1 alone where it is refused, else 0, bits and flags."""
+"""The calls. Each answers -1 alone where it is refused, else 0 and behind it what is told."""
 
 from roundedonce.arithmetic import add, div, mul, scale, sqrt, sub
 from roundedonce.choosing import greatest, in_range, least
+from roundedonce.comparing import is_strict, sort_holds, standing_flags
 from roundedonce.formats import HALF, LOUD, SMALL, WIDTHS
 from roundedonce.formats import no_number, quiet_bit, taken_in
+from roundedonce.fusing import multiply_add
 from roundedonce.parting import exponent_of, grid_reduce, grid_round, part_of
 from roundedonce.rounding import BY_ZERO, CAME_SMALL, INVALID
 
@@ -24,9 +26,12 @@ RANGE = 7
 ONE_IMMS = (0, 255, 0, 15, 255)
 TWO_IMMS = (0, 0, 0, 0, 0, 0, 0, 15)
 
+FUSED_SORTS = 4
+COMPARE_SORTS = 32
+
 
 def one(f, op, how, imm, a):
-    if is_refused(f, op, how, imm, ONE_IMMS) or is_too_wide(f, a):
+    if is_refused(f, how, [a]) or is_wrong_op(op, imm, ONE_IMMS):
         return [-1]
     operand = taken_in(f, how, a)
     found = no_number_answer(f, [operand])
@@ -36,7 +41,7 @@ def one(f, op, how, imm, a):
 
 
 def two(f, op, how, imm, a, b):
-    if is_refused(f, op, how, imm, TWO_IMMS) or is_too_wide(f, a) or is_too_wide(f, b):
+    if is_refused(f, how, [a, b]) or is_wrong_op(op, imm, TWO_IMMS):
         return [-1]
     if op == RANGE and f == HALF:
         return [-1]
@@ -50,12 +55,31 @@ def two(f, op, how, imm, a, b):
     return [0, found[0], found[1]]
 
 
-def is_refused(f, op, how, imm, greatest_imms):
-    return f >= len(WIDTHS) or how > 15 or op >= len(greatest_imms) or imm > greatest_imms[op]
+def fused(f, sort, how, a, b, c):
+    if is_refused(f, how, [a, b, c]) or sort >= FUSED_SORTS:
+        return [-1]
+    operands = [taken_in(f, how, bits) for bits in [a, b, c]]
+    found = no_number_answer(f, operands)
+    if found is None:
+        found = with_small(multiply_add(f, sort, how, operands[0], operands[1], operands[2]), operands)
+    return [0, found[0], found[1]]
 
 
-def is_too_wide(f, bits):
-    return bits >> WIDTHS[f] != 0
+def compare(f, sort, how, a, b):
+    if is_refused(f, how, [a, b]) or sort >= COMPARE_SORTS:
+        return [-1]
+    first = taken_in(f, how, a)
+    second = taken_in(f, how, b)
+    return [0, 1 if sort_holds(sort, first, second) else 0, standing_flags(is_strict(sort), first, second)]
+
+
+def is_refused(f, how, numbers):
+    """Whether there is no such format or how, or one of the numbers has bits above the format's."""
+    return f >= len(WIDTHS) or how > 15 or any([bits >> WIDTHS[f] != 0 for bits in numbers])
+
+
+def is_wrong_op(op, imm, greatest_imms):
+    return op >= len(greatest_imms) or imm > greatest_imms[op]
 
 
 def one_number(f, op, how, imm, a):

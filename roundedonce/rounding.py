@@ -25,6 +25,11 @@ def goes_outward(rounding, sign):
     return rounding == (DOWN if sign == 1 else UP)
 
 
+def unlike_zero_sign(how):
+    """The sign of an exact 0 that isn't the sum of two zeros of one sign."""
+    return 1 if rounding_of(how) == DOWN else 0
+
+
 def rounded_multiple(rounding, sign, whole, shift):
     """The size whole 2^-shift, of a value of this sign, rounded to a whole number."""
     if shift <= 0:

@@ -6,7 +6,7 @@ import unittest
 
 import roundedonce.floats
 from model import FORMATS, ONE_OPS, TWO_OPS, edges
-from roundedonce.floats import one, two
+from roundedonce.floats import compare, fused, one, two
 
 
 def calls():
@@ -16,7 +16,9 @@ def calls():
         for how in (0, 1, 14):
             found += [(one, (f, op, how, 0, a)) for op in ONE_OPS.values() for a in values]
             found += [(two, (f, op, how, 0, a, b)) for op in TWO_OPS.values() for a in values for b in values]
-    found += [(one, (3, 0, 0, 0, 0)), (two, (0, 7, 0, 0, 0, 0))]
+            found += [(fused, (f, sort, how, a, b, values[3])) for sort in range(4) for a in values for b in values]
+            found += [(compare, (f, sort, how, a, b)) for sort in range(32) for a in values for b in values]
+    found += [(one, (3, 0, 0, 0, 0)), (two, (0, 7, 0, 0, 0, 0)), (fused, (1, 4, 0, 0, 0, 0)), (compare, (1, 32, 0, 0, 0))]
     return found
 
 
@@ -50,9 +52,12 @@ class Calls(unittest.TestCase):
         self.assertEqual(one(f=1, op=0, how=0, imm=0, a=0x40800000), [0, 0x40000000, 0])
         self.assertEqual(two(f=1, op=1, how=0, imm=0, a=0x40800000, b=0x40000000), [0, 0x40000000, 0])
 
+        self.assertEqual(fused(f=1, sort=1, how=0, a=0x40800000, b=0x3F800000, c=0x40000000), [0, 0x40000000, 0])
+        self.assertEqual(compare(f=1, sort=1, how=0, a=0x40800000, b=0x40000000), [0, 0, 0])
+
     def test_names_of_the_module(self):
-        self.assertIs(roundedonce.floats.one, one)
-        self.assertIs(roundedonce.floats.two, two)
+        for call in (one, two, fused, compare):
+            self.assertIs(getattr(roundedonce.floats, call.__name__), call)
 
     def test_flags_that_stand_alone(self):
         for call, handed in calls():

@@ -1,8 +1,8 @@
-"""The document's examples of one and two, as they stand there."""
+"""The document's examples, as they stand there."""
 
 import unittest
 
-from roundedonce.floats import one, two
+from roundedonce.floats import compare, fused, one, two
 
 SQRT, ROUND, EXPONENT, PART, REDUCE = range(5)
 ADD, SUB, MUL, DIV, LEAST, GREATEST, SCALE, RANGE = range(8)
@@ -52,6 +52,13 @@ class Examples(unittest.TestCase):
 
     def test_exponent(self):
         self.one(EXPONENT, 0, 0xC1200000, 0x40400000, 0)
+
+    def test_fused(self):
+        self.assertEqual(fused(1, 0, 0, 0x3F800001, 0x3F800001, 0xBF800002), [0, 0x28800000, 0])
+
+    def test_compare(self):
+        self.assertEqual(compare(1, 1, 0, 0x7FC00000, 0x3F800000), [0, 0, 1])
+        self.assertEqual(compare(1, 17, 0, 0x7FC00000, 0x3F800000), [0, 0, 0])
 
 
 if __name__ == "__main__":

@@ -3,7 +3,7 @@
 import unittest
 
 from model import FORMATS, ONE_OPS, TWO_OPS, WIDTH
-from roundedonce.floats import one, two
+from roundedonce.floats import compare, fused, one, two
 
 GREATEST_32 = 4294967295
 GREATEST_64 = 18446744073709551615
@@ -11,7 +11,17 @@ ONE_IMMS = {"sqrt": 0, "round": 255, "exponent": 0, "part": 15, "reduce": 255}
 TWO_IMMS = {"add": 0, "sub": 0, "mul": 0, "div": 0, "least": 0, "greatest": 0, "scale": 0, "range": 15}
 
 
-class Refused(unittest.TestCase):
+def too_wide(f):
+    """Bits above the format's; of double there are none."""
+    wide = (1 << WIDTH[f], (1 << WIDTH[f]) + 0x3C00, 1 << 63, GREATEST_64)
+    return [bits for bits in wide if bits >> WIDTH[f] and bits <= GREATEST_64]
+
+
+def widest(f):
+    return (1 << WIDTH[f]) - 1
+
+
+class Answers(unittest.TestCase):
     def refused(self, call, *handed):
         self.assertEqual(call(*handed), [-1], (call, handed))
 
@@ -19,6 +29,8 @@ class Refused(unittest.TestCase):
         found = call(*handed)
         self.assertEqual((len(found), found[0]), (3, 0), (call, handed))
 
+
+class OneAndTwo(Answers):
     def formats_of(self, name):
         return [f for f in FORMATS if name != "range" or f != 0]
 
@@ -74,10 +86,9 @@ class Refused(unittest.TestCase):
 
     def test_bits_above_the_formats(self):
         for f in FORMATS:
-            wide = [bits for bits in (1 << WIDTH[f], (1 << WIDTH[f]) + 0x3C00, GREATEST_64)
-                    if bits >> WIDTH[f] and bits <= GREATEST_64]
+            wide = too_wide(f)
             for op in ONE_OPS.values():
-                self.taken(one, f, op, 0, 0, (1 << WIDTH[f]) - 1)
+                self.taken(one, f, op, 0, 0, widest(f))
                 for bits in wide:
                     self.refused(one, f, op, 0, 0, bits)
             for name, op in TWO_OPS.items():
@@ -86,7 +97,7 @@ class Refused(unittest.TestCase):
                     self.refused(two, f, op, 0, 0, 0, bits)
                     self.refused(two, f, op, 0, 0, bits, bits)
                 if f in self.formats_of(name):
-                    self.taken(two, f, op, 0, 0, (1 << WIDTH[f]) - 1, (1 << WIDTH[f]) - 1)
+                    self.taken(two, f, op, 0, 0, widest(f), widest(f))
 
     def test_double_takes_all_bits(self):
         for op in ONE_OPS.values():
@@ -103,6 +114,77 @@ class Refused(unittest.TestCase):
     def test_all_at_their_greatest(self):
         self.refused(one, GREATEST_32, GREATEST_32, GREATEST_32, GREATEST_32, GREATEST_64)
         self.refused(two, GREATEST_32, GREATEST_32, GREATEST_32, GREATEST_32, GREATEST_64, GREATEST_64)
+
+
+class Fused(Answers):
+    def test_f_above_two(self):
+        for f in (3, 4, 16, GREATEST_32):
+            for sort in range(4):
+                self.refused(fused, f, sort, 0, 0, 0, 0)
+
+    def test_sort_that_is_not(self):
+        for f in FORMATS:
+            for sort in range(4):
+                self.taken(fused, f, sort, 0, 0, 0, 0)
+            for sort in (4, 5, 7, 8, 16, 31, 32, GREATEST_32):
+                self.refused(fused, f, sort, 0, 0, 0, 0)
+
+    def test_how_above_fifteen(self):
+        for f in FORMATS:
+            for sort in range(4):
+                for how in range(16):
+                    self.taken(fused, f, sort, how, 0, 0, 0)
+                for how in (16, 17, 32, 64, GREATEST_32):
+                    self.refused(fused, f, sort, how, 0, 0, 0)
+
+    def test_bits_above_the_formats(self):
+        for f in FORMATS:
+            for sort in range(4):
+                self.taken(fused, f, sort, 15, widest(f), widest(f), widest(f))
+                for bits in too_wide(f):
+                    self.refused(fused, f, sort, 0, bits, 0, 0)
+                    self.refused(fused, f, sort, 0, 0, bits, 0)
+                    self.refused(fused, f, sort, 0, 0, 0, bits)
+                    self.refused(fused, f, sort, 0, widest(f), widest(f), bits)
+
+    def test_all_at_their_greatest(self):
+        self.refused(fused, GREATEST_32, GREATEST_32, GREATEST_32, GREATEST_64, GREATEST_64, GREATEST_64)
+        self.taken(fused, 2, 3, 15, GREATEST_64, GREATEST_64, GREATEST_64)
+
+
+class Compare(Answers):
+    def test_f_above_two(self):
+        for f in (3, 4, 16, GREATEST_32):
+            for sort in range(32):
+                self.refused(compare, f, sort, 0, 0, 0)
+
+    def test_sort_that_is_not(self):
+        for f in FORMATS:
+            for sort in range(32):
+                self.taken(compare, f, sort, 0, 0, 0)
+            for sort in (32, 33, 47, 48, 64, GREATEST_32):
+                self.refused(compare, f, sort, 0, 0, 0)
+
+    def test_how_above_fifteen(self):
+        for f in FORMATS:
+            for sort in range(32):
+                for how in range(16):
+                    self.taken(compare, f, sort, how, 0, 0)
+                for how in (16, 17, 32, 64, GREATEST_32):
+                    self.refused(compare, f, sort, how, 0, 0)
+
+    def test_bits_above_the_formats(self):
+        for f in FORMATS:
+            for sort in range(32):
+                self.taken(compare, f, sort, 15, widest(f), widest(f))
+                for bits in too_wide(f):
+                    self.refused(compare, f, sort, 0, bits, 0)
+                    self.refused(compare, f, sort, 0, 0, bits)
+                    self.refused(compare, f, sort, 0, bits, widest(f))
+
+    def test_all_at_their_greatest(self):
+        self.refused(compare, GREATEST_32, GREATEST_32, GREATEST_32, GREATEST_64, GREATEST_64)
+        self.taken(compare, 2, 31, 15, GREATEST_64, GREATEST_64)
 
 
 if __name__ == "__main__":
