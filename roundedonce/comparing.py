@@ -4,12 +4,13 @@ from roundedonce.formats import LOUD, SMALL
 from roundedonce.formats import no_number
 from roundedonce.rounding import CAME_SMALL, INVALID
 
+# How two stand, as order tells it.
 LESS = 0
 EQUAL = 1
 GREATER = 2
 NOT_COMPARED = 3
 
-# By sort, of the first sixteen: how the two may stand (0 less, 1 equal, 2 greater, 3 not) for the answer 1.
+# By sort, of the first sixteen: the ways to stand (0 less, 1 equal, 2 greater, 3 not) of which it's true.
 SORT_STANDINGS = (
     (1,),
     (0,),

@@ -2,7 +2,8 @@
 
 from roundedonce.arithmetic import add, div, mul, scale, sqrt, sub
 from roundedonce.choosing import greatest, in_range, least
-from roundedonce.comparing import is_strict, sort_holds, standing_flags
+from roundedonce.classing import class_bits
+from roundedonce.comparing import is_strict, sort_holds, standing, standing_flags
 from roundedonce.formats import HALF, LOUD, SMALL, WIDTHS
 from roundedonce.formats import no_number, quiet_bit, taken_in
 from roundedonce.fusing import multiply_add
@@ -28,6 +29,7 @@ TWO_IMMS = (0, 0, 0, 0, 0, 0, 0, 15)
 
 FUSED_SORTS = 4
 COMPARE_SORTS = 32
+GREATEST_CLASS_IMM = 255
 
 
 def one(f, op, how, imm, a):
@@ -71,6 +73,20 @@ def compare(f, sort, how, a, b):
     first = taken_in(f, how, a)
     second = taken_in(f, how, b)
     return [0, 1 if sort_holds(sort, first, second) else 0, standing_flags(is_strict(sort), first, second)]
+
+
+def order(f, strict, how, a, b):
+    if is_refused(f, how, [a, b]):
+        return [-1]
+    first = taken_in(f, how, a)
+    second = taken_in(f, how, b)
+    return [0, standing(first, second), standing_flags(strict != 0, first, second)]
+
+
+def class_of(f, imm, how, a):
+    if is_refused(f, how, [a]) or imm > GREATEST_CLASS_IMM:
+        return [-1]
+    return [0, 1 if imm & class_bits(taken_in(f, how, a)) else 0]
 
 
 def is_refused(f, how, numbers):

@@ -1,4 +1,4 @@
-"""The second model, of fused and of what is compared: the document's sentences over fractions."""
+"""The second model, of fused, of what is compared and classed: the document's sentences over fractions."""
 
 from model import answered, come_in, infinite, minus_if_down, place, small_came, value_result
 
@@ -53,3 +53,23 @@ def is_strict(sort):
 def compare(f, sort, how, a, b):
     a, b = come_in(f, how, a), come_in(f, how, b)
     return [0, 1 if stand(a, b) in SORTS[sort % 16] else 0, asked_flags(is_strict(sort), a, b)]
+
+
+def order(f, strict, how, a, b):
+    a, b = come_in(f, how, a), come_in(f, how, b)
+    return [0, ("less", "equal", "greater", "not").index(stand(a, b)), asked_flags(strict != 0, a, b)]
+
+
+def class_of(f, imm, how, a):
+    a = come_in(f, how, a)
+    told = [
+        a.kind == "quiet",
+        a.kind == "zero" and a.sign == 0,
+        a.kind == "zero" and a.sign == 1,
+        a.kind == "infinite" and a.sign == 0,
+        a.kind == "infinite" and a.sign == 1,
+        a.kind == "small",
+        a.finite and a.value < 0,
+        a.kind == "loud",
+    ]
+    return [0, 1 if any(told[bit] for bit in range(8) if imm >> bit & 1) else 0]

@@ -6,7 +6,7 @@ import unittest
 
 import roundedonce.floats
 from model import FORMATS, ONE_OPS, TWO_OPS, edges
-from roundedonce.floats import compare, fused, one, two
+from roundedonce.floats import class_of, compare, fused, one, order, two
 
 
 def calls():
@@ -18,7 +18,10 @@ def calls():
             found += [(two, (f, op, how, 0, a, b)) for op in TWO_OPS.values() for a in values for b in values]
             found += [(fused, (f, sort, how, a, b, values[3])) for sort in range(4) for a in values for b in values]
             found += [(compare, (f, sort, how, a, b)) for sort in range(32) for a in values for b in values]
-    found += [(one, (3, 0, 0, 0, 0)), (two, (0, 7, 0, 0, 0, 0)), (fused, (1, 4, 0, 0, 0, 0)), (compare, (1, 32, 0, 0, 0))]
+            found += [(order, (f, strict, how, a, b)) for strict in (0, 7) for a in values for b in values]
+            found += [(class_of, (f, imm, how, a)) for imm in (0, 97, 255) for a in values]
+    found += [(one, (3, 0, 0, 0, 0)), (two, (0, 7, 0, 0, 0, 0)), (fused, (1, 4, 0, 0, 0, 0)), (compare, (1, 32, 0, 0, 0)),
+              (order, (3, 0, 0, 0, 0)), (class_of, (1, 256, 0, 0))]
     return found
 
 
@@ -28,8 +31,8 @@ class Calls(unittest.TestCase):
             found = call(*handed)
             self.assertIs(type(found), list)
             self.assertEqual({type(x) for x in found}, {int})
-            self.assertIn((len(found), found[0]), [(1, -1), (3, 0)])
-            if found[0] == 0:
+            self.assertIn((len(found), found[0]), [(1, -1), (2 if call is class_of else 3, 0)])
+            if len(found) == 3:
                 self.assertLess(found[2], 64)
 
     def test_each_call_is_as_if_for_the_first_time(self):
@@ -54,15 +57,17 @@ class Calls(unittest.TestCase):
 
         self.assertEqual(fused(f=1, sort=1, how=0, a=0x40800000, b=0x3F800000, c=0x40000000), [0, 0x40000000, 0])
         self.assertEqual(compare(f=1, sort=1, how=0, a=0x40800000, b=0x40000000), [0, 0, 0])
+        self.assertEqual(order(f=1, strict=0, how=0, a=0x40800000, b=0x40000000), [0, 2, 0])
+        self.assertEqual(class_of(f=1, imm=8, how=0, a=0x7F800000), [0, 1])
 
     def test_names_of_the_module(self):
-        for call in (one, two, fused, compare):
+        for call in (one, two, fused, compare, order, class_of):
             self.assertIs(getattr(roundedonce.floats, call.__name__), call)
 
     def test_flags_that_stand_alone(self):
         for call, handed in calls():
             found = call(*handed)
-            if found[0] == 0 and found[2] & 5:
+            if len(found) == 3 and found[2] & 5:
                 self.assertIn(found[2], (1, 4), (call, handed))
 
 

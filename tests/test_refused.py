@@ -3,7 +3,7 @@
 import unittest
 
 from model import FORMATS, ONE_OPS, TWO_OPS, WIDTH
-from roundedonce.floats import compare, fused, one, two
+from roundedonce.floats import class_of, compare, fused, one, order, two
 
 GREATEST_32 = 4294967295
 GREATEST_64 = 18446744073709551615
@@ -27,7 +27,7 @@ class Answers(unittest.TestCase):
 
     def taken(self, call, *handed):
         found = call(*handed)
-        self.assertEqual((len(found), found[0]), (3, 0), (call, handed))
+        self.assertEqual((len(found), found[0]), (2 if call is class_of else 3, 0), (call, handed))
 
 
 class OneAndTwo(Answers):
@@ -185,6 +185,70 @@ class Compare(Answers):
     def test_all_at_their_greatest(self):
         self.refused(compare, GREATEST_32, GREATEST_32, GREATEST_32, GREATEST_64, GREATEST_64)
         self.taken(compare, 2, 31, 15, GREATEST_64, GREATEST_64)
+
+
+class Order(Answers):
+    def test_f_above_two(self):
+        for f in (3, 4, 16, GREATEST_32):
+            for strict in (0, 1, GREATEST_32):
+                self.refused(order, f, strict, 0, 0, 0)
+
+    def test_no_strict_is_refused(self):
+        for f in FORMATS:
+            for strict in (0, 1, 2, 15, 16, 255, 256, 1 << 31, GREATEST_32):
+                self.taken(order, f, strict, 0, 0, 0)
+
+    def test_how_above_fifteen(self):
+        for f in FORMATS:
+            for strict in (0, 1):
+                for how in range(16):
+                    self.taken(order, f, strict, how, 0, 0)
+                for how in (16, 17, 32, 64, GREATEST_32):
+                    self.refused(order, f, strict, how, 0, 0)
+
+    def test_bits_above_the_formats(self):
+        for f in FORMATS:
+            for strict in (0, 1):
+                self.taken(order, f, strict, 15, widest(f), widest(f))
+                for bits in too_wide(f):
+                    self.refused(order, f, strict, 0, bits, 0)
+                    self.refused(order, f, strict, 0, 0, bits)
+                    self.refused(order, f, strict, 0, bits, widest(f))
+
+    def test_all_at_their_greatest(self):
+        self.refused(order, GREATEST_32, GREATEST_32, GREATEST_32, GREATEST_64, GREATEST_64)
+        self.taken(order, 2, GREATEST_32, 15, GREATEST_64, GREATEST_64)
+
+
+class ClassOf(Answers):
+    def test_f_above_two(self):
+        for f in (3, 4, 16, GREATEST_32):
+            for imm in (0, 2, 255):
+                self.refused(class_of, f, imm, 0, 0)
+
+    def test_imm_above_255(self):
+        for f in FORMATS:
+            for imm in range(256):
+                self.taken(class_of, f, imm, 0, 0)
+            for imm in (256, 257, 511, 512, GREATEST_32):
+                self.refused(class_of, f, imm, 0, 0)
+
+    def test_how_above_fifteen(self):
+        for f in FORMATS:
+            for how in range(16):
+                self.taken(class_of, f, 255, how, 0)
+            for how in (16, 17, 32, 64, GREATEST_32):
+                self.refused(class_of, f, 255, how, 0)
+
+    def test_bits_above_the_formats(self):
+        for f in FORMATS:
+            self.taken(class_of, f, 255, 15, widest(f))
+            for bits in too_wide(f):
+                self.refused(class_of, f, 255, 0, bits)
+
+    def test_all_at_their_greatest(self):
+        self.refused(class_of, GREATEST_32, GREATEST_32, GREATEST_32, GREATEST_64)
+        self.taken(class_of, 2, 255, 15, GREATEST_64)
 
 
 if __name__ == "__main__":
