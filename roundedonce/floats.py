@@ -1,9 +1,11 @@
 """The calls. Each answers -1 alone where it is refused, else 0 and behind it what is told."""
 
 from roundedonce.arithmetic import add, div, mul, scale, sqrt, sub
+from roundedonce.changing import changed
 from roundedonce.choosing import greatest, in_range, least
 from roundedonce.classing import class_bits
 from roundedonce.comparing import is_strict, sort_holds, standing, standing_flags
+from roundedonce.fixing import fixed
 from roundedonce.formats import HALF, LOUD, SMALL, WIDTHS
 from roundedonce.formats import no_number, quiet_bit, taken_in
 from roundedonce.fusing import multiply_add
@@ -30,6 +32,7 @@ TWO_IMMS = (0, 0, 0, 0, 0, 0, 0, 15)
 FUSED_SORTS = 4
 COMPARE_SORTS = 32
 GREATEST_CLASS_IMM = 255
+GREATEST_FIX_IMM = 255
 
 
 def one(f, op, how, imm, a):
@@ -87,6 +90,21 @@ def class_of(f, imm, how, a):
     if is_refused(f, how, [a]) or imm > GREATEST_CLASS_IMM:
         return [-1]
     return [0, 1 if imm & class_bits(taken_in(f, how, a)) else 0]
+
+
+def fix(f, imm, how, table, a, b):
+    if is_refused(f, how, [a, b]) or f == HALF or imm > GREATEST_FIX_IMM:
+        return [-1]
+    found = fixed(f, imm, table, a, taken_in(f, how, b))
+    return [0, found[0], found[1]]
+
+
+def change(f, g, how, a):
+    if is_refused(f, how, [a]) or g >= len(WIDTHS) or f == g:
+        return [-1]
+    operand = taken_in(f, how, a)
+    found = with_small(changed(f, g, how, operand), [operand])
+    return [0, found[0], found[1]]
 
 
 def is_refused(f, how, numbers):

@@ -6,7 +6,7 @@ import unittest
 
 import roundedonce.floats
 from model import FORMATS, ONE_OPS, TWO_OPS, edges
-from roundedonce.floats import class_of, compare, fused, one, order, two
+from roundedonce.floats import change, class_of, compare, fix, fused, one, order, two
 
 
 def calls():
@@ -20,6 +20,8 @@ def calls():
             found += [(compare, (f, sort, how, a, b)) for sort in range(32) for a in values for b in values]
             found += [(order, (f, strict, how, a, b)) for strict in (0, 7) for a in values for b in values]
             found += [(class_of, (f, imm, how, a)) for imm in (0, 97, 255) for a in values]
+            found += [(fix, (f, imm, how, 0x89ABC210, a, b)) for imm in (0, 77) for a in values[:3] for b in values]
+            found += [(change, (f, g, how, a)) for g in FORMATS for a in values]
     found += [(one, (3, 0, 0, 0, 0)), (two, (0, 7, 0, 0, 0, 0)), (fused, (1, 4, 0, 0, 0, 0)), (compare, (1, 32, 0, 0, 0)),
               (order, (3, 0, 0, 0, 0)), (class_of, (1, 256, 0, 0))]
     return found
@@ -59,15 +61,18 @@ class Calls(unittest.TestCase):
         self.assertEqual(compare(f=1, sort=1, how=0, a=0x40800000, b=0x40000000), [0, 0, 0])
         self.assertEqual(order(f=1, strict=0, how=0, a=0x40800000, b=0x40000000), [0, 2, 0])
         self.assertEqual(class_of(f=1, imm=8, how=0, a=0x7F800000), [0, 1])
+        self.assertEqual(fix(f=1, imm=8, how=0, table=0x9000, a=0, b=0x3F800000), [0, 0xBF800000, 1])
+        self.assertEqual(change(f=1, g=2, how=0, a=0x3F800000), [0, 0x3FF0000000000000, 0])
 
     def test_names_of_the_module(self):
-        for call in (one, two, fused, compare, order, class_of):
+        for call in (one, two, fused, compare, order, class_of, fix, change):
             self.assertIs(getattr(roundedonce.floats, call.__name__), call)
 
     def test_flags_that_stand_alone(self):
         for call, handed in calls():
             found = call(*handed)
-            if len(found) == 3 and found[2] & 5:
+            # Of fix two bits of imm may ask for both.
+            if len(found) == 3 and found[2] & 5 and call is not fix:
                 self.assertIn(found[2], (1, 4), (call, handed))
 
 

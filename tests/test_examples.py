@@ -2,7 +2,7 @@
 
 import unittest
 
-from roundedonce.floats import compare, fused, one, two
+from roundedonce.floats import change, compare, fix, fused, one, two
 
 SQRT, ROUND, EXPONENT, PART, REDUCE = range(5)
 ADD, SUB, MUL, DIV, LEAST, GREATEST, SCALE, RANGE = range(8)
@@ -59,6 +59,14 @@ class Examples(unittest.TestCase):
     def test_compare(self):
         self.assertEqual(compare(1, 1, 0, 0x7FC00000, 0x3F800000), [0, 0, 1])
         self.assertEqual(compare(1, 17, 0, 0x7FC00000, 0x3F800000), [0, 0, 0])
+
+    def test_change(self):
+        self.assertEqual(change(2, 0, 0, 0x3FF0000000000001), [0, 0x3C00, 32])
+        self.assertEqual(change(1, 2, 0, 0x7F800001), [0, 0x7FF8000020000000, 1])
+
+    def test_fix(self):
+        for a in (0, 0x12345678, 0x7F800001):
+            self.assertEqual(fix(1, 8, 0, 0x00009000, a, 0x3F800000), [0, 0xBF800000, 1])
 
 
 if __name__ == "__main__":

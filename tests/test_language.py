@@ -43,9 +43,17 @@ def bound_names(tree):
 
 
 def is_plain(node):
-    """A plain value of a module's top: a whole number, a text, a tuple of such."""
-    if isinstance(node, (ast.Tuple, ast.List)):
-        return all(is_plain(item) for item in node.elts)
+    """A plain value of a module's top: a whole number, a text, a tuple of such, a list or dict of all these."""
+    if isinstance(node, ast.Dict):
+        return all(is_flat(item) for item in node.keys + node.values)
+    if isinstance(node, ast.List):
+        return all(is_flat(item) for item in node.elts)
+    return is_flat(node)
+
+
+def is_flat(node):
+    if isinstance(node, ast.Tuple):
+        return all(is_flat(item) for item in node.elts)
     return isinstance(node, ast.Constant) and not isinstance(node.value, (float, bytes, complex))
 
 

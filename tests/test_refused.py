@@ -3,7 +3,7 @@
 import unittest
 
 from model import FORMATS, ONE_OPS, TWO_OPS, WIDTH
-from roundedonce.floats import class_of, compare, fused, one, order, two
+from roundedonce.floats import change, class_of, compare, fix, fused, one, order, two
 
 GREATEST_32 = 4294967295
 GREATEST_64 = 18446744073709551615
@@ -249,6 +249,83 @@ class ClassOf(Answers):
     def test_all_at_their_greatest(self):
         self.refused(class_of, GREATEST_32, GREATEST_32, GREATEST_32, GREATEST_64)
         self.taken(class_of, 2, 255, 15, GREATEST_64)
+
+
+class Fix(Answers):
+    def test_f_zero_and_above_two(self):
+        for f in (0, 3, 4, 16, GREATEST_32):
+            for how in range(16):
+                self.refused(fix, f, 0, how, 0x11111111, 0, 0)
+                self.refused(fix, f, 255, how, GREATEST_32, 0x3C00, 0x3C00)
+
+    def test_imm_above_255(self):
+        for f in (1, 2):
+            for imm in range(256):
+                self.taken(fix, f, imm, 0, 0, 0, 0)
+            for imm in (256, 257, 511, 512, GREATEST_32):
+                self.refused(fix, f, imm, 0, 0, 0, 0)
+
+    def test_how_above_fifteen(self):
+        for f in (1, 2):
+            for how in range(16):
+                self.taken(fix, f, 0, how, 0, 0, 0)
+            for how in (16, 17, 32, 64, GREATEST_32):
+                self.refused(fix, f, 0, how, 0, 0, 0)
+
+    def test_no_table_is_refused(self):
+        for f in (1, 2):
+            for table in (0, 1, 0x80000000, GREATEST_32):
+                self.taken(fix, f, 0, 0, table, 0, 0)
+
+    def test_bits_above_the_formats(self):
+        for f in (1, 2):
+            for table in (0, 0x11111111, 0xAAAAAAAA):
+                self.taken(fix, f, 255, 15, table, widest(f), widest(f))
+                for bits in too_wide(f):
+                    # Of a too, though it isn't looked into.
+                    self.refused(fix, f, 0, 0, table, bits, 0)
+                    self.refused(fix, f, 0, 0, table, 0, bits)
+                    self.refused(fix, f, 0, 0, table, bits, bits)
+
+    def test_all_at_their_greatest(self):
+        self.refused(fix, GREATEST_32, GREATEST_32, GREATEST_32, GREATEST_32, GREATEST_64, GREATEST_64)
+        self.taken(fix, 2, 255, 15, GREATEST_32, GREATEST_64, GREATEST_64)
+
+
+class Change(Answers):
+    def test_f_and_g_above_two(self):
+        for wrong in (3, 4, 16, GREATEST_32):
+            for right in FORMATS:
+                self.refused(change, wrong, right, 0, 0)
+                self.refused(change, right, wrong, 0, 0)
+            self.refused(change, wrong, wrong, 0, 0)
+        self.refused(change, 3, 4, 0, 0)
+
+    def test_f_the_same_as_g(self):
+        for f in FORMATS:
+            for g in FORMATS:
+                for how in range(16):
+                    (self.refused if f == g else self.taken)(change, f, g, how, 0)
+
+    def test_how_above_fifteen(self):
+        for f in FORMATS:
+            for g in FORMATS:
+                for how in (16, 17, 32, 64, GREATEST_32):
+                    self.refused(change, f, g, how, 0)
+
+    def test_bits_above_the_formats(self):
+        for f in FORMATS:
+            for g in FORMATS:
+                if f != g:
+                    # What counts is f's width, not g's.
+                    self.taken(change, f, g, 15, widest(f))
+                    for bits in too_wide(f):
+                        self.refused(change, f, g, 0, bits)
+
+    def test_all_at_their_greatest(self):
+        self.refused(change, GREATEST_32, GREATEST_32, GREATEST_32, GREATEST_64)
+        self.refused(change, GREATEST_32, 1, 0, GREATEST_64)
+        self.taken(change, 2, 0, 15, GREATEST_64)
 
 
 if __name__ == "__main__":
