@@ -11,6 +11,8 @@ from roundedonce.formats import no_number, quiet_bit, taken_in
 from roundedonce.fusing import multiply_add
 from roundedonce.parting import exponent_of, grid_reduce, grid_round, part_of
 from roundedonce.rounding import BY_ZERO, CAME_SMALL, INVALID
+from roundedonce.wholes import KIND_WIDTHS
+from roundedonce.wholes import float_of, picked_cut, whole_of
 
 SQRT = 0
 ROUND = 1
@@ -104,6 +106,21 @@ def change(f, g, how, a):
         return [-1]
     operand = taken_in(f, how, a)
     found = with_small(changed(f, g, how, operand), [operand])
+    return [0, found[0], found[1]]
+
+
+def to_whole(f, kind, cut, how, a):
+    if is_refused(f, how, [a]) or kind >= len(KIND_WIDTHS):
+        return [-1]
+    found = whole_of(kind, picked_cut(cut, how), taken_in(f, how, a))
+    return [0, found[0], found[1]]
+
+
+def of_whole(kind, g, how, v):
+    # A v is never too wide: of the kinds of 32 bits those above are left out.
+    if is_refused(g, how, []) or kind >= len(KIND_WIDTHS):
+        return [-1]
+    found = float_of(kind, g, how, v)
     return [0, found[0], found[1]]
 
 

@@ -7,6 +7,7 @@ from roundedonce.formats import packed_bits, zero_bits
 NEAR = 0
 DOWN = 1
 UP = 2
+CUT = 3
 
 INVALID = 1
 CAME_SMALL = 2

@@ -1,9 +1,9 @@
-"""The second model, of what is fixed and changed: the document's sentences over fractions."""
+"""The second model, of what is fixed, changed and made whole: the document's sentences over fractions."""
 
 from fractions import Fraction
 
-from model import DIGITS, DOUBLE, EMAX, EMPTY, SINGLE, come_in, encode, infinite, number, small_came, two_to
-from model import value_result, zero
+from model import CUT, DIGITS, DOUBLE, EMAX, EMPTY, SINGLE, come_in, encode, infinite, multiple_of, number
+from model import small_came, two_to, value_result, zero
 
 HALF_PI = {SINGLE: 0x3FC90FDB, DOUBLE: 0x3FF921FB54442D18}
 # By bit of imm: the flag, and the token of which it's told.
@@ -48,3 +48,33 @@ def change(f, g, how, a):
         return [0, infinite(g, a.sign), 0]
     bits, flags = value_result(g, how, a.value, a.sign)
     return [0, bits, flags | small_came([a])]
+
+
+# By kind: its width, whether it has a sign, what is told of all beyond.
+KINDS = {0: (32, True, 1 << 31), 1: (32, False, (1 << 32) - 1), 2: (64, True, 1 << 63), 3: (64, False, (1 << 64) - 1)}
+
+
+def ends(kind):
+    width, signed, told = KINDS[kind]
+    return (-(1 << (width - 1)), (1 << (width - 1)) - 1) if signed else (0, (1 << width) - 1)
+
+
+def to_whole(f, kind, cut, how, a):
+    a = come_in(f, how, a)
+    width, signed, beyond = KINDS[kind]
+    if not a.finite:
+        return [0, beyond, 1]
+    size = multiple_of(a.size, Fraction(1), how % 4 if cut == 0 else CUT, a.sign)
+    n = -size if a.sign else size
+    least, greatest = ends(kind)
+    if not least <= n <= greatest:
+        return [0, beyond, 1]
+    return [0, n % (1 << width), 0 if n == a.value else 32]
+
+
+def of_whole(kind, g, how, v):
+    width, signed, beyond = KINDS[kind]
+    n = v % (1 << width)
+    if n > ends(kind)[1]:
+        n -= 1 << width
+    return [0, *value_result(g, how, Fraction(n), 0)]

@@ -6,7 +6,7 @@ import unittest
 
 import roundedonce.floats
 from model import FORMATS, ONE_OPS, TWO_OPS, edges
-from roundedonce.floats import change, class_of, compare, fix, fused, one, order, two
+from roundedonce.floats import change, class_of, compare, fix, fused, of_whole, one, order, to_whole, two
 
 
 def calls():
@@ -22,8 +22,12 @@ def calls():
             found += [(class_of, (f, imm, how, a)) for imm in (0, 97, 255) for a in values]
             found += [(fix, (f, imm, how, 0x89ABC210, a, b)) for imm in (0, 77) for a in values[:3] for b in values]
             found += [(change, (f, g, how, a)) for g in FORMATS for a in values]
-    found += [(one, (3, 0, 0, 0, 0)), (two, (0, 7, 0, 0, 0, 0)), (fused, (1, 4, 0, 0, 0, 0)), (compare, (1, 32, 0, 0, 0)),
-              (order, (3, 0, 0, 0, 0)), (class_of, (1, 256, 0, 0))]
+            found += [(to_whole, (f, kind, cut, how, a)) for kind in range(4) for cut in (0, 5) for a in values]
+            found += [(of_whole, (kind, f, how, a)) for kind in range(4) for a in values + edges(2)[::3]]
+    # One of each call that is refused.
+    found += [(one, (3, 0, 0, 0, 0)), (two, (0, 7, 0, 0, 0, 0)), (fused, (1, 4, 0, 0, 0, 0)),
+              (compare, (1, 32, 0, 0, 0)), (order, (3, 0, 0, 0, 0)), (class_of, (1, 256, 0, 0)),
+              (fix, (0, 0, 0, 0, 0, 0)), (change, (1, 1, 0, 0)), (to_whole, (1, 4, 0, 0, 0)), (of_whole, (4, 1, 0, 0))]
     return found
 
 
@@ -63,9 +67,11 @@ class Calls(unittest.TestCase):
         self.assertEqual(class_of(f=1, imm=8, how=0, a=0x7F800000), [0, 1])
         self.assertEqual(fix(f=1, imm=8, how=0, table=0x9000, a=0, b=0x3F800000), [0, 0xBF800000, 1])
         self.assertEqual(change(f=1, g=2, how=0, a=0x3F800000), [0, 0x3FF0000000000000, 0])
+        self.assertEqual(to_whole(f=1, kind=0, cut=0, how=0, a=0x40800000), [0, 4, 0])
+        self.assertEqual(of_whole(kind=0, g=1, how=0, v=4), [0, 0x40800000, 0])
 
     def test_names_of_the_module(self):
-        for call in (one, two, fused, compare, order, class_of, fix, change):
+        for call in (one, two, fused, compare, order, class_of, fix, change, to_whole, of_whole):
             self.assertIs(getattr(roundedonce.floats, call.__name__), call)
 
     def test_flags_that_stand_alone(self):
@@ -74,6 +80,16 @@ class Calls(unittest.TestCase):
             # Of fix two bits of imm may ask for both.
             if len(found) == 3 and found[2] & 5 and call is not fix:
                 self.assertIn(found[2], (1, 4), (call, handed))
+
+    def test_flags_that_a_call_can_have(self):
+        possible = {compare: (0, 1, 2), order: (0, 1, 2), fix: (0, 1, 4, 5), to_whole: (0, 1, 32),
+                    of_whole: (0, 32, 40)}
+        for call, handed in calls():
+            found = call(*handed)
+            if len(found) == 3 and call in possible:
+                self.assertIn(found[2], possible[call], (call, handed))
+            if call is of_whole and len(found) == 3 and handed[1] != 0:
+                self.assertIn(found[2], (0, 32), handed)
 
 
 if __name__ == "__main__":

@@ -2,7 +2,7 @@
 
 import unittest
 
-from roundedonce.floats import change, compare, fix, fused, one, two
+from roundedonce.floats import change, compare, fix, fused, of_whole, one, to_whole, two
 
 SQRT, ROUND, EXPONENT, PART, REDUCE = range(5)
 ADD, SUB, MUL, DIV, LEAST, GREATEST, SCALE, RANGE = range(8)
@@ -67,6 +67,13 @@ class Examples(unittest.TestCase):
     def test_fix(self):
         for a in (0, 0x12345678, 0x7F800001):
             self.assertEqual(fix(1, 8, 0, 0x00009000, a, 0x3F800000), [0, 0xBF800000, 1])
+
+    def test_to_whole(self):
+        self.assertEqual(to_whole(1, 1, 0, 0, 0xBECCCCCD), [0, 0, 32])
+        self.assertEqual(to_whole(1, 1, 0, 0, 0xBF800000), [0, 4294967295, 1])
+
+    def test_of_whole(self):
+        self.assertEqual(of_whole(0, 0, 0, 65520), [0, 0x7C00, 40])
 
 
 if __name__ == "__main__":

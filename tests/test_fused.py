@@ -289,7 +289,8 @@ class BesideTheModel(unittest.TestCase):
 
     def test_every_how(self):
         for f in model.FORMATS:
-            few = [0, 1, (1 << (model.DIGITS[f] - 1)) + 1, number(f, 1) - 1, model.infinite(f, 0) - 1, model.infinite(f, 0)]
+            top = model.infinite(f, 0)
+            few = [0, 1, (1 << (model.DIGITS[f] - 1)) + 1, number(f, 1) - 1, top - 1, top]
             for a in few:
                 for b in few:
                     for c in few:

@@ -3,7 +3,7 @@
 import unittest
 
 from model import FORMATS, ONE_OPS, TWO_OPS, WIDTH
-from roundedonce.floats import change, class_of, compare, fix, fused, one, order, two
+from roundedonce.floats import change, class_of, compare, fix, fused, of_whole, one, order, to_whole, two
 
 GREATEST_32 = 4294967295
 GREATEST_64 = 18446744073709551615
@@ -326,6 +326,79 @@ class Change(Answers):
         self.refused(change, GREATEST_32, GREATEST_32, GREATEST_32, GREATEST_64)
         self.refused(change, GREATEST_32, 1, 0, GREATEST_64)
         self.taken(change, 2, 0, 15, GREATEST_64)
+
+
+class ToWhole(Answers):
+    def test_f_above_two(self):
+        for f in (3, 4, 16, GREATEST_32):
+            for kind in range(4):
+                self.refused(to_whole, f, kind, 0, 0, 0)
+
+    def test_kind_that_is_not(self):
+        for f in FORMATS:
+            for cut in (0, 1, GREATEST_32):
+                for kind in range(4):
+                    self.taken(to_whole, f, kind, cut, 0, 0)
+                for kind in (4, 5, 7, 8, 32, 64, GREATEST_32):
+                    self.refused(to_whole, f, kind, cut, 0, 0)
+
+    def test_no_cut_is_refused(self):
+        for f in FORMATS:
+            for kind in range(4):
+                for cut in (0, 1, 2, 3, 4, 15, 16, 255, 256, 1 << 31, GREATEST_32):
+                    self.taken(to_whole, f, kind, cut, 0, 0)
+
+    def test_how_above_fifteen(self):
+        for f in FORMATS:
+            for kind in range(4):
+                for how in range(16):
+                    self.taken(to_whole, f, kind, 0, how, 0)
+                for how in (16, 17, 32, 64, GREATEST_32):
+                    self.refused(to_whole, f, kind, 0, how, 0)
+                    self.refused(to_whole, f, kind, 1, how, 0)
+
+    def test_bits_above_the_formats(self):
+        for f in FORMATS:
+            for kind in range(4):
+                self.taken(to_whole, f, kind, 0, 15, widest(f))
+                for bits in too_wide(f):
+                    self.refused(to_whole, f, kind, 0, 0, bits)
+
+    def test_all_at_their_greatest(self):
+        self.refused(to_whole, GREATEST_32, GREATEST_32, GREATEST_32, GREATEST_32, GREATEST_64)
+        self.taken(to_whole, 2, 3, GREATEST_32, 15, GREATEST_64)
+
+
+class OfWhole(Answers):
+    def test_g_above_two(self):
+        for g in (3, 4, 16, GREATEST_32):
+            for kind in range(4):
+                self.refused(of_whole, kind, g, 0, 0)
+
+    def test_kind_that_is_not(self):
+        for g in FORMATS:
+            for kind in range(4):
+                self.taken(of_whole, kind, g, 0, 0)
+            for kind in (4, 5, 7, 8, 32, 64, GREATEST_32):
+                self.refused(of_whole, kind, g, 0, 0)
+
+    def test_how_above_fifteen(self):
+        for g in FORMATS:
+            for kind in range(4):
+                for how in range(16):
+                    self.taken(of_whole, kind, g, how, 0)
+                for how in (16, 17, 32, 64, GREATEST_32):
+                    self.refused(of_whole, kind, g, how, 0)
+
+    def test_no_v_is_refused(self):
+        for g in FORMATS:
+            for kind in range(4):
+                for v in (0, 1 << 16, 1 << 31, 1 << 32, 1 << 63, GREATEST_64):
+                    self.taken(of_whole, kind, g, 0, v)
+
+    def test_all_at_their_greatest(self):
+        self.refused(of_whole, GREATEST_32, GREATEST_32, GREATEST_32, GREATEST_64)
+        self.taken(of_whole, 3, 2, 15, GREATEST_64)
 
 
 if __name__ == "__main__":
